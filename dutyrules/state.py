@@ -5,8 +5,22 @@ MOST_WAYS = 40
 MOST_PIECES = 7
 # The bound of each rule, of a way's minutes and of a piece's last minute.
 MOST = 100000
-# In this order: long, work, drive, rest, on, off, change, least, twice.
 FIRST_RULES = (600, 480, 240, 30, 10, 10, 5, 0, 100000)
+# Where each rule stands among the nine.
+LONG = 0
+WORK = 1
+DRIVE = 2
+REST = 3
+ON = 4
+OFF = 5
+CHANGE = 6
+LEAST = 7
+TWICE = 8
+# Where each number of a piece of work stands in it.
+FROM_PLACE = 0
+TO_PLACE = 1
+FIRST = 2
+LAST = 3
 
 
 def is_place(place):
@@ -36,6 +50,7 @@ class Depot:
         self.can_break = [0] * PLACES
         self.homes = []
         self.ways = []
+        self.shortest = {}
         self.pieces = []
 
     def begins(self, rules):
@@ -64,7 +79,15 @@ class Depot:
         if len(self.ways) == MOST_WAYS:
             return -5
         self.ways.append((from_place, to_place, minutes))
+        both = (from_place, to_place)
+        self.shortest[both] = min(minutes, self.shortest.get(both, minutes))
         return len(self.ways) - 1
+
+    def minutes_to_get(self, from_place, to_place):
+        """How long it takes from a place to another or to itself; None if one can't get there."""
+        if from_place == to_place:
+            return 0
+        return self.shortest.get((from_place, to_place))
 
     def work(self, from_place, to_place, first, last):
         """Tell a piece of work: its number; or -1, not as told; or -5, no room for another."""
@@ -74,3 +97,10 @@ class Depot:
             return -5
         self.pieces.append((from_place, to_place, first, last))
         return len(self.pieces) - 1
+
+    def drop(self, number):
+        """Forget a piece of work, those behind it move up: 0; or -2, there is no such piece."""
+        if number >= len(self.pieces):
+            return -2
+        self.pieces.pop(number)
+        return 0

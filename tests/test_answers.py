@@ -59,7 +59,7 @@ class AnswersTest(unittest.TestCase):
 
 
 class AnswerOfTest(unittest.TestCase):
-    """That each number of a call comes to its own place: no answer tells that yet."""
+    """That each number of a call comes to its own place in the depot."""
 
     def test_begins(self):
         depot = Depot()
